@@ -6,6 +6,9 @@ SHOW = [2]
 DIRECT = [3]
 DEAD = [4]
 PLACEALL = [6]
+PRUNE = [7]
+SAME = [9]
+AGAIN = [11]
 SIZE = [12]
 
 
@@ -20,6 +23,14 @@ def strings(k):
 
 def place(label):
     return [5, label]
+
+
+def run(number):
+    return [8, number]
+
+
+def handed(*numbers):
+    return [10, len(numbers)] + list(numbers)
 
 
 def ask(*calls):

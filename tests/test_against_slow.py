@@ -7,7 +7,8 @@ tuples, a table is one set of facts, and each rule is written down again.
 import random
 import unittest
 
-from tests.helper import DEAD, DIRECT, PLACEALL, SHOW, SIZE, ask, place, program, shown, strings
+from tests.helper import (AGAIN, DEAD, DIRECT, PLACEALL, PRUNE, SAME, SHOW, SIZE, ask, handed, place, program, run, shown,
+                          strings)
 
 FORMS = {"fun": 1, "let": 2, "if": 3, "pair": 2, "fst": 1, "snd": 1, "new": 1, "get": 1, "set": 2, "add": 2}
 SMALL = "abcdefghijklmnopqrstuvwxyz"
@@ -262,6 +263,159 @@ def placeall_of(tree, k):
     return count, tree
 
 
+def pruned_of(tree, facts):
+    """The tree with 0 in all dead functions' bodies; the innermost are done first here."""
+    for function in reversed(dead_of(tree, facts)):
+        tree = swapped(tree, function, ("fun", Nodes(tree).tree[function][1], ("num", 0)))
+    return tree
+
+
+class Still(Exception):
+    pass
+
+
+class Running:
+    """Values: an int; ("fun", tree, names); ("pair", first, second); ("ref", [contents])."""
+
+    def __init__(self, tree, number):
+        self.steps = 0
+        try:
+            value = self.go(tree, {"in": number})
+            what = 0 if isinstance(value, int) else {"fun": 1, "pair": 2, "ref": 3}[value[0]]
+            self.end = [0, what, 0 if what else value]
+        except Still as still:
+            self.end = [still.args[0], 0, 0]
+
+    def need(self, held):
+        if not held:
+            raise Still(1)
+
+    def go(self, tree, names):
+        self.steps += 1
+        if self.steps > 300:
+            self.steps = 300
+            raise Still(2)
+        kind = tree[0]
+        if kind == "num":
+            return tree[1]
+        if kind == "name":
+            return names[tree[1]]
+        if kind == "fun":
+            return ("fun", tree, names)
+        if kind == "let":
+            return self.go(tree[3], {**names, tree[1]: self.go(tree[2], names)})
+        value = self.go(tree[1], names)
+        if kind == "if":
+            self.need(isinstance(value, int))
+            return self.go(tree[3] if value else tree[2], names)
+        if kind == "new":
+            return ("ref", [value])
+        if kind in ("fst", "snd", "get"):
+            self.need(not isinstance(value, int) and value[0] == ("ref" if kind == "get" else "pair"))
+            return value[1][0] if kind == "get" else value[1] if kind == "fst" else value[2]
+        other = self.go(tree[2], names)
+        if kind == "pair":
+            return ("pair", value, other)
+        if kind == "add":
+            self.need(isinstance(value, int) and isinstance(other, int))
+            return (value + other) % 100
+        self.need(not isinstance(value, int) and value[0] == ("ref" if kind == "set" else "fun"))
+        if kind == "set":
+            value[1][0] = other
+            return other
+        return self.go(value[1][2], {**value[2], value[1][1]: other})
+
+
+def same_of(first, tree):
+    for number in range(10):
+        end = Running(first, number).end
+        if end[0] != 2 and end != Running(tree, number).end:
+            return [0, number]
+    return [1]
+
+
+def arrows_of(tree, facts):
+    nodes = Nodes(tree)
+    return sorted({(label, fact[3][1]) for label, node in enumerate(nodes.tree) if node[0] == "call" for fact in facts
+                   if fact[0] == "at" and fact[1] == ("node", nodes.parts[label][0]) and fact[3][0] == "fun"})
+
+
+def handed_of(tree, facts, graph):
+    if len(graph) % 2 or min(graph, default=0) < 0:
+        return [-4]
+    if facts is None:
+        return [-7]
+    arrows = arrows_of(tree, facts)
+    given = list(zip(graph[::2], graph[1::2]))
+    lacking = [arrow for arrow in arrows if arrow not in given]
+    needless = [arrow for arrow in given if arrow not in arrows]
+    if lacking:
+        return [0, *lacking[0]]
+    return [1, 1, *needless[0]] if needless else [1, 0]
+
+
+class Model:
+    """One object, and what each call on it answers."""
+
+    def __init__(self):
+        self.first = self.tree = ("num", 0)
+        self.k = 1
+
+    def nodes(self):
+        return len(Nodes(self.tree).tree)
+
+    def answer(self, call):
+        number = call[0]
+        facts = facts_of(self.tree, self.k) if number in (3, 4, 5, 6, 7, 10) else None
+        if number == 0:
+            tree = read("".join(chr(byte) for byte in call[2:]))
+            if tree is None:
+                return [-1]
+            self.first = self.tree = tree
+            return [self.nodes()]
+        if number == 1:
+            if call[1] not in (0, 1, 2):
+                return [-2]
+            before, self.k = self.k, call[1]
+            return [before]
+        if number == 2:
+            return [len(written(self.tree))] + [ord(sign) for sign in written(self.tree)]
+        if number == 5:
+            return self.change(placed_of(self.tree, facts, call[1]))
+        if number == 8:
+            if call[1] not in range(10):
+                return [-2]
+            running = Running(self.tree, call[1])
+            return running.end + [running.steps]
+        if number == 9:
+            return same_of(self.first, self.tree)
+        if number == 10:
+            return handed_of(self.tree, facts, call[2:])
+        if number == 11:
+            return self.change(self.first)
+        if number == 12:
+            calls = sum(node[0] == "call" for node in Nodes(self.tree).tree)
+            return [len(Nodes(self.first).tree), self.nodes(), self.k, calls]
+        if facts is None:
+            return [-7]
+        if number == 3:
+            arrows = direct_of(self.tree, facts)
+            return [len(arrows)] + [label for arrow in arrows for label in arrow]
+        dead = dead_of(self.tree, facts)
+        if number == 4:
+            return [len(dead)] + dead
+        if number == 7:
+            return [len(dead)] + self.change(pruned_of(self.tree, facts))
+        then = placeall_of(self.tree, self.k)
+        return [then[0]] + self.change(then[1])
+
+    def change(self, then):
+        if isinstance(then, int):
+            return [then]
+        self.tree = then
+        return [self.nodes()]
+
+
 class Maker:
     """Random programs; calls of bound names are frequent, so that tables have something to tell."""
 
@@ -295,6 +449,83 @@ class Maker:
             self.left -= 1
             return ("call", ("name", pick.choice(bound[-3:])), self.expression(bound, around + 1))
         return (kind,) + tuple(self.expression(bound, around + 1) for turn in range(FORMS.get(kind, 2)))
+
+
+class SoberMaker(Maker):
+    """Random programs whose parts are mostly of the kinds that are needed, so that runs go far.
+
+    Functions are of numbers, pairs of numbers; a cell is a reference to a number, a knot one to a function.
+    """
+
+    def program(self):
+        while True:
+            self.left = self.random.randrange(8, 31)
+            tree = self.wanted(self.random.choice(["number"] * 6 + ["function", "pair", "cell"]), {}, 0)
+            if read(written(tree)) == tree:
+                return tree
+
+    def wanted(self, kind, bound, around):
+        self.left -= 1
+        pick = self.random
+        if pick.random() < 0.015:
+            kind = pick.choice(["number", "function", "pair", "cell", "knot"])
+        held = [("name", name) for name in bound if bound[name] == kind]
+        if held and pick.random() < 0.5:
+            return pick.choice(held)
+        if around == 8 or self.left <= 0:
+            plain = {"function": ("fun", "z", ("num", 7)), "pair": ("pair", ("num", 1), ("num", 2)),
+                     "cell": ("new", ("num", 0)), "knot": ("new", ("fun", "z", ("name", "z")))}
+            return plain.get(kind, pick.choice([("num", pick.randrange(100)), ("name", "in")]))
+
+        def of(other, also=None):
+            return self.wanted(other, {**bound, **(also or {})}, around + 1)
+
+        if pick.random() < 0.3:
+            name, own = pick.choice("fgxyz"), pick.choice(["number", "function", "function", "pair", "cell", "knot"])
+            return ("let", name, of(own), of(kind, {name: own}))
+        if pick.random() < 0.2:
+            return ("if", of("number"), of(kind), of(kind))
+        name = pick.choice("nm")
+        ways = {
+            "number": [lambda: ("call", of("function"), of("number")), lambda: ("add", of("number"), of("number")),
+                       lambda: ("call", ("get", of("knot")), of("number")), lambda: ("get", of("cell")),
+                       lambda: (pick.choice(["fst", "snd"]), of("pair")), lambda: ("set", of("cell"), of("number"))],
+            "function": [lambda: ("fun", name, of("number", {name: "number"})), lambda: ("get", of("knot")),
+                         lambda: ("set", of("knot"), of("function"))],
+            "pair": [lambda: ("pair", of("number"), of("number"))],
+            "cell": [lambda: ("new", of("number"))],
+            "knot": [lambda: ("new", of("function"))],
+        }
+        return pick.choice(ways[kind])()
+
+
+class LoopMaker(SoberMaker):
+    """Programs that go round through a function held by a reference or given to itself, some of them for long."""
+
+    def program(self):
+        while True:
+            self.left = self.random.randrange(3, 12)
+            tree = self.random.choice([self.held, self.given_itself])()
+            if read(written(tree)) == tree:
+                return tree
+
+    def around(self, once_more, bound, at):
+        n, more = ("name", "n"), self.random.choice([99, 99, 98, 97, 90, 50, 1])
+        again = ("call", once_more, ("add", n, ("num", more)))
+        if self.random.random() < 0.5:
+            again = ("add", self.wanted("number", bound, at + 2), again)
+        return ("fun", "n", ("if", n, self.wanted("number", bound, at + 2), again))
+
+    def held(self):
+        knot = ("get", ("name", "r"))
+        function = self.around(knot, {"n": "number", "r": "knot"}, 3)
+        start = ("call", knot, self.wanted("number", {"r": "knot"}, 3))
+        return ("let", "r", ("new", ("fun", "z", ("name", "z"))), ("let", "d", ("set", ("name", "r"), function), start))
+
+    def given_itself(self):
+        function = self.around(("call", ("name", "s"), ("name", "s")), {"n": "number"}, 2)
+        start = ("call", ("call", ("name", "f"), ("name", "f")), self.wanted("number", {}, 2))
+        return ("let", "f", ("fun", "s", function), start)
 
 
 class Against(unittest.TestCase):
@@ -337,6 +568,100 @@ class Against(unittest.TestCase):
             for k in (0, 1, 2):
                 with self.subTest(text=written(tree), k=k):
                     self.hold(tree, k)
+
+    def hold_line(self, line):
+        model = Model()
+        told = ask(*line)
+        for call, answer in zip(line, told):
+            self.assertEqual(answer, model.answer(call), (call, written(model.tree)))
+        return told
+
+    def test_runs(self):
+        ends = [0, 0, 0]
+        longest = 0
+        for maker, many in ((Maker(30), 200), (SoberMaker(31), 600), (LoopMaker(40), 300)):
+            for turn in range(many):
+                text = written(maker.program())
+                with self.subTest(text=text):
+                    told = self.hold_line([program(text)] + [run(number) for number in range(10)] + [SAME])
+                    for answer in told[1:-1]:
+                        ends[answer[0]] += 1
+                        longest = max(longest, answer[3] if answer[0] < 2 else 0)
+        # Else the programs would tell little.
+        self.assertGreater(min(ends), 300)
+        self.assertGreater(longest, 290)
+
+    def test_prune(self):
+        many = []
+        for maker in (Maker(32), SoberMaker(33)):
+            for turn in range(60):
+                text = written(maker.program())
+                for k in (0, 1, 2):
+                    with self.subTest(text=text, k=k):
+                        line = [program(text), strings(k), PRUNE, SHOW, DIRECT, DEAD, SAME, PRUNE, PLACEALL, PRUNE, SHOW, SAME]
+                        many.append(self.hold_line(line)[2][0])
+        self.assertGreater(sum(dead > 1 for dead in many), 50)
+
+    def test_handed(self):
+        pick = random.Random(34)
+        firsts = [0, 0, 0]
+        for maker in (Maker(35), SoberMaker(36)):
+            for turn in range(60):
+                tree = maker.program()
+                for k in (0, 1, 2):
+                    facts = facts_of(tree, k)
+                    arrows = arrows_of(tree, facts) if facts is not None else [(0, 1)]
+                    whole = [label for arrow in arrows for label in arrow]
+                    with self.subTest(text=written(tree), k=k):
+                        line = [program(written(tree)), strings(k), handed(), handed(*whole)]
+                        for more in range(12):
+                            line.append(handed(*self.graph(arrows, len(Nodes(tree).tree), pick)))
+                        for answer in self.hold_line(line)[2:]:
+                            firsts[0 if answer[0] == 0 else 1 if answer == [1, 0] else 2] += 1
+        self.assertGreater(min(firsts), 100)
+
+    def graph(self, arrows, nodes, pick):
+        """Some arrows of a table, in some order, and perhaps some that are none of its."""
+        given = [arrow for arrow in arrows if pick.random() < 0.9] + pick.sample(arrows, min(2, len(arrows)))
+        pick.shuffle(given)
+        for turn in range(pick.choice([0, 0, 1, 2])):
+            given.insert(pick.randrange(len(given) + 1), (pick.randrange(nodes + 1), pick.randrange(nodes + 1)))
+        numbers = [label for arrow in given for label in arrow][:100]
+        if numbers and pick.random() < 0.1:
+            numbers[pick.randrange(len(numbers))] = pick.choice([-1, 10 ** 18, -10 ** 18])
+        return numbers[1:] if pick.random() < 0.05 else numbers
+
+    def test_lines_of_twenty_calls(self):
+        pick = random.Random(37)
+        makers = (Maker(38), SoberMaker(39), LoopMaker(41))
+        for turn in range(300):
+            numbers = list(range(13)) + [0, 0, 5, 5, pick.randrange(13), pick.randrange(13), pick.randrange(13)]
+            pick.shuffle(numbers)
+            model = Model()
+            line = []
+            expected = []
+            for number in numbers:
+                line.append(self.call(number, model, pick, makers))
+                expected.append(model.answer(line[-1]))
+            with self.subTest(line=line):
+                self.assertEqual(ask(*line), expected)
+
+    def call(self, number, model, pick, makers):
+        """A call that has mostly something to do with the program that a model has then."""
+        if number == 0:
+            text = written(pick.choice(makers).program())
+            return program(text if pick.random() < 0.85 else text[:-1] + "?")
+        if number == 1:
+            return strings(pick.choice([0, 1, 2, 2, 3, -1, 10 ** 18]))
+        if number == 5:
+            calls = [label for label, node in enumerate(Nodes(model.tree).tree) if node[0] == "call"]
+            return place(pick.choice(calls * 3 + [-1, 0, model.nodes()]))
+        if number == 8:
+            return run(pick.choice([0, 1, 2, 5, 8, 9, 9, -1, 10, -10 ** 18]))
+        if number == 10:
+            facts = facts_of(model.tree, model.k)
+            return handed(*self.graph(arrows_of(model.tree, facts or set()), model.nodes(), pick))
+        return [number]
 
     def test_spoiled_texts(self):
         maker = Maker(21)

@@ -2,7 +2,7 @@
 
 import unittest
 
-from tests.helper import PLACEALL, SHOW, SIZE, ask, place, program, shown, strings
+from tests.helper import AGAIN, PLACEALL, PRUNE, SAME, SHOW, SIZE, ask, handed, place, program, run, shown, strings
 
 WORDS = ["fun", "let", "if", "pair", "fst", "snd", "new", "get", "set", "add"]
 HUGE = 10 ** 18
@@ -187,6 +187,16 @@ class Size(unittest.TestCase):
         text = "(let f (fun x (new x)) (add (f 1) (f in)))"
         told = ask(program(text), SIZE, place(5), SIZE, strings(2), SIZE, PLACEALL, SIZE, program("9"), SIZE)
         self.assertEqual(told[1::2], [[11, 11, 1, 2], [11, 12, 1, 1], [11, 12, 2, 1], [11, 13, 2, 0], [1, 1, 2, 0]])
+
+    def test_behind_prune_and_again(self):
+        text = "(let f (fun x (new x)) (pair (f 1) (fun y ((f y) (f 2)))))"
+        told = ask(program(text), SIZE, PRUNE, SIZE, place(5), SIZE, PRUNE, SIZE, AGAIN, SIZE, strings(0), SIZE)
+        self.assertEqual(told[1::2], [[16, 16, 1, 4], [16, 10, 1, 1], [16, 11, 1, 0], [16, 10, 1, 0], [16, 16, 1, 4],
+                                      [16, 16, 0, 4]])
+
+    def test_what_changes_nothing(self):
+        told = ask(program("((fun x x) 1)"), run(1), SIZE, SAME, SIZE, handed(0, 1), SIZE, SHOW, SIZE)
+        self.assertEqual(told[2::2], [[4, 4, 1, 1]] * 4)
 
     def test_calls_count_wherever_they_stand(self):
         self.assertEqual(ask(program("(fun x ((x x) (0 1)))"), SIZE)[1], [8, 8, 1, 3])

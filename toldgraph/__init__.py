@@ -1,1 +1,1 @@
-"""What the told graph is good for: direct calls, dead functions, calls put in place."""
+"""What the told graph is good for: calls put in place, programs pruned, graphs and runs compared."""

@@ -1,8 +1,11 @@
 """The calls on one object, handed in and answered as lists of whole numbers."""
 
-from toldgraph.placing import dead_functions, direct_calls, place_all, place_call
+from toldgraph.graphs import arrows_of, dead_functions, direct_calls, first_lacking, read_graph
+from toldgraph.placing import place_all, place_call
 from toldgraph.programs import program_of, read_program
-from toldgraph.refusals import NoSuchNode, NotACall, NotALength, Refusal
+from toldgraph.pruning import prune_dead
+from toldgraph.refusals import NoSuchNode, NotACall, NotALength, NotAnInput, Refusal
+from toldgraph.runs import INPUTS, first_unlike, run_on
 from toldgraph.tables import table_of
 from toldgraph.texts import bytes_of, text_of
 
@@ -41,10 +44,10 @@ def answer_show(desk, given):
 
 
 def answer_direct(desk, given):
-    pairs = direct_calls(desk.table())
-    answer = [len(pairs)]
-    for pair in pairs:
-        answer.extend([pair[0], pair[1]])
+    arrows = direct_calls(desk.table())
+    answer = [len(arrows)]
+    for arrow in arrows:
+        answer.extend(list(arrow))
     return answer
 
 
@@ -69,6 +72,40 @@ def answer_placeall(desk, given):
     return [placed[0], desk.how_many_nodes()]
 
 
+def answer_prune(desk, given):
+    pruned = prune_dead(desk.table())
+    desk.program = pruned[1]
+    return [pruned[0], desk.how_many_nodes()]
+
+
+def answer_run(desk, given):
+    if not 0 <= given[0] < INPUTS:
+        raise NotAnInput()
+    return run_on(desk.program, given[0])
+
+
+def answer_same(desk, given):
+    unlike = first_unlike(desk.first, desk.program)
+    return [1] if unlike is None else [0, unlike]
+
+
+def answer_handed(desk, given):
+    handed = read_graph(given)
+    told = arrows_of(desk.table())
+    lacking = first_lacking(told, handed)
+    if lacking is not None:
+        return [0] + list(lacking)
+    needless = first_lacking(handed, told)
+    if needless is not None:
+        return [1, 1] + list(needless)
+    return [1, 0]
+
+
+def answer_again(desk, given):
+    desk.program = desk.first
+    return [desk.how_many_nodes()]
+
+
 def answer_size(desk, given):
     calls = desk.program.labels_of("call")
     return [len(desk.first.rows), desk.how_many_nodes(), desk.most, len(calls)]
@@ -83,6 +120,11 @@ CALLS = {
     4: (answer_dead, "nothing"),
     5: (answer_place, "a number"),
     6: (answer_placeall, "nothing"),
+    7: (answer_prune, "nothing"),
+    8: (answer_run, "a number"),
+    9: (answer_same, "nothing"),
+    10: (answer_handed, "a row"),
+    11: (answer_again, "nothing"),
     12: (answer_size, "nothing"),
 }
 

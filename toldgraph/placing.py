@@ -1,36 +1,11 @@
-"""What a table tells of a program's calls, and calls put in place."""
+"""Calls put in place: a let with the function's body instead of the call."""
 
+from toldgraph.graphs import direct_to
 from toldgraph.programs import NOWHERE, program_of
 from toldgraph.refusals import CannotBePlaced, NoProgramComes, NotAProgram, TableTooLarge
-from toldgraph.tables import FUNCTION, NODE, table_of
+from toldgraph.tables import table_of
 
 MOST_PLACED = 6
-
-
-# What may be at a node in all strings together, as (what it is, its label).
-def all_at(table, label):
-    found = {}
-    for string in table.strings_at(label):
-        for sort in table.sorts_at((NODE, label, string)):
-            found[(sort[0], sort[1])] = True
-    return list(found)
-
-
-# The function that a call is direct to, NOWHERE if it isn't direct.
-def direct_to(table, call):
-    found = all_at(table, table.program.parts[call][0])
-    if len(found) == 1 and found[0][0] == FUNCTION:
-        return found[0][1]
-    return NOWHERE
-
-
-def direct_calls(table):
-    pairs = [(call, direct_to(table, call)) for call in table.program.labels_of("call")]
-    return [pair for pair in pairs if pair[1] != NOWHERE]
-
-
-def dead_functions(table):
-    return [label for label in table.program.labels_of("fun") if label not in table.entered]
 
 
 def function_to_place(table, call):

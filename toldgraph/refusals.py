@@ -16,9 +16,19 @@ class NotALength(Refusal):
         Refusal.__init__(self, -2)
 
 
+class NotAnInput(Refusal):
+    def __init__(self):
+        Refusal.__init__(self, -2)
+
+
 class NoSuchNode(Refusal):
     def __init__(self):
         Refusal.__init__(self, -3)
+
+
+class NotAGraph(Refusal):
+    def __init__(self):
+        Refusal.__init__(self, -4)
 
 
 class NotACall(Refusal):

@@ -6,6 +6,7 @@ made). A place in a string is (group, label, string).
 
 from toldgraph.programs import NOWHERE
 from toldgraph.refusals import TableTooLarge
+from toldgraph.sorts import FUNCTION, PAIR, REFERENCE
 
 MOST_FACTS = 400
 
@@ -15,9 +16,6 @@ FIRST = "first"
 SECOND = "second"
 CONTENTS = "contents"
 
-FUNCTION = 1
-PAIR = 2
-REFERENCE = 3
 NUMBER_SORT = (0, 0, ())
 
 
